@@ -1,0 +1,1 @@
+"""A panel in front of relays, watched, with its journal."""
