@@ -45,6 +45,7 @@ class Row:
         self.numbers = numbers
 
 
+# The text that bytes make up.
 def signs_of(text):
     known = {}
     for sign in LETTERS + DIGITS + " \n":
@@ -127,8 +128,8 @@ def read_row(line):
     raise Shapeless("no such line")
 
 
-def read_rows(text):
-    lines = signs_of(text).split("\n")
+def read_rows(signs):
+    lines = signs.split("\n")
     unended = lines.pop()
     rows = []
     for place, line in enumerate(lines):
@@ -180,8 +181,9 @@ def build(rows):
             variables[row.name] = len(scheme.inputs)
             scheme.inputs.append(row.name)
         elif row.rank == RELAY_RANK:
-            variables[row.name] = relay_variable(len(scheme.relays))
-            scheme.relays.append(Relay(row.numbers[0], row.numbers[1], row.numbers[2]))
+            variable = relay_variable(len(scheme.relays))
+            variables[row.name] = variable
+            scheme.relays.append(Relay(1 << variable, row.numbers[0], row.numbers[1], row.numbers[2]))
         elif row.rank == LAMP_RANK:
             scheme.lamps.append(row.numbers[0])
         elif row.name in variables:
@@ -191,9 +193,9 @@ def build(rows):
     return scheme
 
 
-# The scheme of a text of bytes; raises the text's first fault if it is no scheme's.
-def read_scheme(text):
-    rows = read_rows(text)
+# The scheme of a text's signs; raises the text's first fault if it is no scheme's.
+def read_scheme(signs):
+    rows = read_rows(signs)
     # One kind of fault behind another, as the least kind is told even where its line comes later.
     check_order(rows)
     check_counts(rows)

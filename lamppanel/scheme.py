@@ -5,8 +5,10 @@ RAIL = 0
 FIRST_RELAY = 16
 
 
+# A relay's bit is that of its variable in a state.
 class Relay:
-    def __init__(self, node, up, down):
+    def __init__(self, bit, node, up, down):
+        self.bit = bit
         self.node = node
         self.up = up
         self.down = down
@@ -74,9 +76,9 @@ def live_nodes(scheme, state):
 def look_at(scheme, state):
     live = live_nodes(scheme, state)
     relays = 0
-    for place, relay in enumerate(scheme.relays):
+    for relay in scheme.relays:
         if live[relay.node]:
-            relays |= 1 << relay_variable(place)
+            relays |= relay.bit
     lamps = 0
     for place, node in enumerate(scheme.lamps):
         if live[node]:

@@ -20,6 +20,19 @@ def told():
     return [4]
 
 
+def journal():
+    return [5]
+
+
+def play(text):
+    numbers = list(text.encode("latin-1"))
+    return [6, len(numbers)] + numbers
+
+
+def back():
+    return [7]
+
+
 def ask(*calls):
     numbers = answers([number for call in calls for number in call])
     cut = []
@@ -34,6 +47,12 @@ def ask(*calls):
 
 def last(*calls):
     return ask(*calls)[-1]
+
+
+def written(answer):
+    """The text that a journal's answer holds."""
+    assert answer[0] == 0
+    return bytes(answer[1:]).decode("latin-1")
 
 
 def relay(place):

@@ -118,6 +118,55 @@ class Language(unittest.TestCase):
                 if isinstance(node, ast.Call) and isinstance(node.func, ast.Attribute):
                     self.assertIn(node.func.attr, METHODS | own, name)
 
+    def test_texts_with_names_in_them(self):
+        for name, text, tree in self.each():
+            for node in ast.walk(tree):
+                if isinstance(node, ast.FormattedValue):
+                    self.assertIsInstance(node.value, ast.Name, f"{name}:{node.lineno}")
+                    self.assertIsNone(node.format_spec, f"{name}:{node.lineno}")
+
+    def test_is_stands_beside_none_alone(self):
+        for name, text, tree in self.each():
+            for node in ast.walk(tree):
+                if isinstance(node, ast.Compare) and isinstance(node.ops[0], (ast.Is, ast.IsNot)):
+                    self.assertIn(ast.unparse(node.comparators[0]), ("None", "True", "False"), f"{name}:{node.lineno}")
+
+    def test_no_name_is_a_method_here_and_a_value_there(self):
+        methods = set()
+        values = set()
+        for name, text, tree in self.each():
+            for node in tree.body:
+                if isinstance(node, ast.ClassDef):
+                    methods |= {part.name for part in node.body if isinstance(part, ast.FunctionDef)}
+            values |= {node.attr for node in ast.walk(tree)
+                       if isinstance(node, ast.Attribute) and isinstance(node.ctx, ast.Store)}
+        self.assertEqual(methods & values, set())
+        for one in (str, int, list, dict, set, bytes):
+            self.assertEqual((methods | values) & set(dir(one)) - {"__init__"}, set())
+
+    def test_no_two_files_draw_from_one_another(self):
+        drawn = {}
+        for name, text, tree in self.each():
+            drawn[name] = {node.module.split(".")[1] + ".py" for node in tree.body if isinstance(node, ast.ImportFrom)}
+        while drawn:
+            free = [name for name, others in drawn.items() if not others & set(drawn)]
+            self.assertNotEqual(free, [], drawn)
+            for name in free:
+                del drawn[name]
+
+    def test_a_name_is_drawn_from_the_file_that_defines_it(self):
+        for name, text, tree in self.each():
+            for node in tree.body:
+                if isinstance(node, ast.ImportFrom):
+                    path = PACKAGE / (node.module.split(".")[1] + ".py")
+                    there = set()
+                    for part in ast.parse(path.read_text(encoding="utf-8")).body:
+                        if isinstance(part, (ast.FunctionDef, ast.ClassDef)):
+                            there.add(part.name)
+                        elif isinstance(part, ast.Assign):
+                            there.add(part.targets[0].id)
+                    self.assertLessEqual({alias.name for alias in node.names}, there, name)
+
     def test_the_top_of_each_file(self):
         for name, text, tree in self.each():
             for node in tree.body:

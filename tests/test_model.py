@@ -4,7 +4,7 @@ import random
 import re
 import unittest
 
-from calling import load, press, run, told
+from calling import back, journal, load, play, press, run, told
 from lamppanel.panel import answers
 
 NAME = "([a-z][a-z0-9]{0,11})"
@@ -59,8 +59,9 @@ class Model:
         self.rows = None
 
     def load(self, text):
-        if len(text) > 20000:
-            return [-1]
+        return [-1] if len(text) > 20000 else self.begin(text)
+
+    def begin(self, text):
         rows, found = faults(text)
         if found:
             return [0] + list(min(found))
@@ -71,7 +72,8 @@ class Model:
         self.on = set()
         self.waited = {name: 0 for name, *rest in self.relays}
         self.ticks = 0
-        self.done = 0
+        self.text = text
+        self.done = []
         return [0, 0, 0]
 
     def live(self):
@@ -100,10 +102,10 @@ class Model:
         name = self.inputs[place]
         if (name in self.on) == (on == 1):
             return [0, 0]
-        if self.done == 200:
+        if len(self.done) == 200:
             return [-7]
         self.on ^= {name}
-        self.done += 1
+        self.done.append(("let ", "press ")[on] + name)
         return [0, 1]
 
     def tick(self):
@@ -127,7 +129,7 @@ class Model:
             return [-3]
         if n not in range(2001) or k not in range(2001):
             return [-1]
-        if n and self.done == 200:
+        if n and len(self.done) == 200:
             return [-7]
         turned = []
         tail = []
@@ -139,7 +141,7 @@ class Model:
                 turned.append(len(turning))
                 tail.append(sum(2 ** (16 + at) for at, row in enumerate(self.relays) if row[0] in turning))
                 tail.append(self.lit())
-        self.done += 1 if passed else 0
+        self.done += [f"run {passed}"] if passed else []
         return [0, passed, sum(turned), int(k > 0 and len(turned) == k)] + tail
 
     def told(self):
@@ -148,6 +150,55 @@ class Model:
         state = sum(2 ** place for place, name in enumerate(self.inputs) if name in self.on)
         state += sum(2 ** (16 + place) for place, row in enumerate(self.relays) if row[0] in self.on)
         return [0, state, self.lit(), self.ticks] + list(self.waited.values())
+
+    def written(self):
+        return self.text + "".join(line + "\n" for line in self.done)
+
+    def journal(self):
+        return [-3] if self.rows is None else [0] + list(self.written().encode("ascii"))
+
+    def why_not(self, line):
+        found = re.fullmatch(f"(press|let) {NAME}|run {TICKS}", line)
+        if found is None or found[3] and (len(found[3]) > 4 or int(found[3]) > 2000):
+            return 6
+        if found[2] and found[2] not in self.inputs:
+            return 7
+        if found[2] and (found[2] in self.on) == (found[1] == "press"):
+            return 8
+        if len(self.done) == 200:
+            return 9
+        if found[2]:
+            self.press(self.inputs.index(found[2]), int(found[1] == "press"))
+        else:
+            self.run(int(found[3]), 0)
+        return 0
+
+    def play(self, text):
+        if len(text) > 40000:
+            return [-1]
+        lines = text.split("\n")[:-1]
+        things = [place for place, line in enumerate(lines) if re.match("(press|let|run) ", line)]
+        first = min(things + [len(lines)])
+        other = Model()
+        got = other.begin("".join(line + "\n" for line in lines[:first]))
+        if got != [0, 0, 0]:
+            return got + [0]
+        for place in range(first, len(lines)):
+            why = other.why_not(lines[place])
+            if why:
+                return [0, why, place, 0]
+        self.__dict__ = other.__dict__
+        return [0, 0, 0, len(lines) - first]
+
+    def back(self):
+        if self.rows is None:
+            return [-3]
+        if not self.done:
+            return [-5]
+        # A panel is what its journal leads to.
+        self.done.pop()
+        self.play(self.written())
+        return [0]
 
 
 def some_delay(dice, word):
@@ -190,38 +241,80 @@ def spoil(dice, lines):
     return "".join(line + "\n" for line in lines)
 
 
-def some_calls(dice):
-    """Pairs of a call's name and its arguments."""
-    calls = []
-    for step in range(dice.randint(1, 25)):
-        way = dice.random()
-        if way < 0.15 or step == 0:
-            calls.append(("load", spoil(dice, some_scheme(dice))))
-        elif way < 0.45:
-            calls.append(("press", dice.randint(-1, 4), dice.choice([-1, 0, 0, 0, 1, 1, 1, 1, 2])))
-        elif way < 0.8:
-            calls.append(("run", dice.choice([0, 1, 2, 5, 17, 40, 2001]), dice.choice([0, 0, 0, 1, 2, 7, -1])))
+def some_things(dice):
+    names = ["i0", "i1", "i2", "i3", "r0", "l0", "zz", "Z"]
+    lines = []
+    for step in range(dice.choice([0, 1, 3, 9])):
+        if dice.random() < 0.5:
+            lines.append(f"{dice.choice(['press', 'let'])} {dice.choices(names, [40, 40, 20, 20, 1, 1, 1, 1])[0]}")
         else:
-            calls.append(("told",))
-    return calls
+            lines.append(f"run {dice.choices([1, 2, 7, 30, 0, '02', 2001, ''], [20, 20, 20, 20, 1, 1, 1, 1])[0]}")
+    return lines
 
 
-def numbers_of(call):
-    return {"load": load, "press": press, "run": run, "told": told}[call[0]](*call[1:])
+def some_text(dice, model):
+    """A text to be played: often the journal that stands, with more behind it, or with lines of it spoilt."""
+    if model.rows is not None and dice.random() < 0.6:
+        lines = model.written().split("\n")[:-1]
+    else:
+        lines = some_scheme(dice)
+    lines += some_things(dice)
+    text = spoil(dice, lines) if dice.random() < 0.5 else "".join(line + "\n" for line in lines)
+    return text + dice.choice(["", "", "run 3", "x"])
+
+
+def some_call(dice, model):
+    """A call's name and its arguments."""
+    way = dice.random()
+    if way < 0.1:
+        return "load", spoil(dice, some_scheme(dice))
+    if way < 0.35:
+        return "press", dice.randint(-1, 4), dice.choice([-1, 0, 0, 0, 1, 1, 1, 1, 2])
+    if way < 0.6:
+        return "run", dice.choice([0, 1, 2, 5, 17, 40, 2001]), dice.choice([0, 0, 0, 1, 2, 7, -1])
+    if way < 0.7:
+        return "play", some_text(dice, model)
+    return (dice.choice(["told", "told", "journal", "back", "back"]),)
+
+
+WRITERS = {"load": load, "press": press, "run": run, "told": told, "journal": journal, "play": play, "back": back}
 
 
 class AgainstTheModel(unittest.TestCase):
+    def go(self, dice, calls_before, steps):
+        model = Model()
+        calls = []
+        wanted = []
+        for step in range(len(calls_before) + steps):
+            call = calls_before[step] if step < len(calls_before) else some_call(dice, model)
+            calls.append(call)
+            wanted.append(getattr(model, call[0])(*call[1:]))
+        got = answers([number for call in calls for number in WRITERS[call[0]](*call[1:])])
+        self.assertEqual(got, [number for one in wanted for number in [len(one)] + one], calls)
+        return [(call[0], one) for call, one in zip(calls, wanted)]
+
     def test_made_up_calls(self):
         dice = random.Random(20)
+        met = set()
         for turn in range(1500):
-            calls = some_calls(dice)
-            model = Model()
-            wanted = []
-            for call in calls:
-                numbers = getattr(model, call[0])(*call[1:])
-                wanted += [len(numbers)] + numbers
-            got = answers([number for call in calls for number in numbers_of(call)])
-            self.assertEqual(got, wanted, calls)
+            begin = [("load", spoil(dice, some_scheme(dice)))] if dice.random() < 0.9 else []
+            for name, one in self.go(dice, begin, dice.randint(1, 25)):
+                met.add((name, one[0] if len(one) == 1 else one[1]) if name in ("load", "play", "back") else name)
+        # The calls are worth nothing if they never come to what they are to come to.
+        self.assertLessEqual({("play", kind) for kind in (0, 1, 2, 3, 4, 5, 6, 7, 8)}, met)
+        self.assertLessEqual({("back", 0), ("back", -3), ("back", -5)}, met)
+
+    def test_made_up_calls_about_two_hundred_things(self):
+        dice = random.Random(21)
+        kinds = set()
+        for turn in range(60):
+            scheme = "in i0\nin i1\nrelay r0 at 1 up 1\nrelay r1 at 2\nlamp l0 at 2\nopen r0 0 1\nclose i0 1 2\n"
+            things = "press i0\nrun 1\nlet i0\nrun 2\n" * 49 + "run 1\n" * dice.randint(0, 4)
+            for name, one in self.go(dice, [("play", scheme + things)], 30):
+                kinds.add((name, one[0] if len(one) == 1 else one[1]))
+        self.assertIn(("play", 9), kinds)
+        self.assertIn(("press", -7), kinds)
+        self.assertIn(("run", -7), kinds)
 
 
 if __name__ == "__main__":

@@ -1,7 +1,7 @@
 import unittest
 
 from calling import ask, last, load, press, relay, run, told
-from lamppanel.clock import Clock, tick
+from lamppanel.clock import Clock, pass_quietly, quiet_ticks, tick
 from lamppanel.reading import read_scheme
 
 # A relay whose own opener feeds it: it turns at every tick.
@@ -172,16 +172,42 @@ class CutInPieces(unittest.TestCase):
 
 class TheCount(unittest.TestCase):
     def test_behind_the_greatest_count_is_nought(self):
-        scheme = read_scheme(list(b"relay r at 0 up 9\n"))
+        scheme = read_scheme("relay r at 0 up 9\n")
         clock = tick(scheme, Clock(0, 2 ** 64 - 1, [4]))
         self.assertEqual((clock.state, clock.ticks, clock.waits), (0, 0, [5]))
         self.assertEqual(tick(scheme, Clock(0, 2 ** 64 - 2, [4])).ticks, 2 ** 64 - 1)
         self.assertEqual(tick(scheme, Clock(0, 2 ** 63 - 1, [4])).ticks, 2 ** 63)
 
     def test_one_that_waited_longer_than_its_delay_turns(self):
-        scheme = read_scheme(list(b"relay r at 0 up 3\n"))
+        scheme = read_scheme("relay r at 0 up 3\n")
         clock = tick(scheme, Clock(0, 5, [8]))
         self.assertEqual((clock.state, clock.ticks, clock.waits), (relay(0), 6, [0]))
+
+
+class ManyAtOnce(unittest.TestCase):
+    def test_quiet_ticks_lead_to_where_single_ones_lead(self):
+        text = "in a\nrelay r at 0 up 30\nrelay s at 0 up 30\nrelay t at 1\nrelay u at 0 up 44\nclose a 0 1\n"
+        scheme = read_scheme(text)
+        clock = tick(scheme, Clock(0, 2 ** 64 - 20, [0, 6, 9, 1]))
+        self.assertEqual([quiet_ticks(scheme, clock, most) for most in (0, 22, 23, 24, 2000)], [0, 22, 23, 23, 23])
+        single = clock
+        for count in range(24):
+            many = pass_quietly(clock, count)
+            self.assertEqual((many.state, many.ticks, many.waits), (single.state, single.ticks, single.waits))
+            single = tick(scheme, single)
+        self.assertEqual((single.state, single.ticks), (relay(1), 5))
+
+    def test_the_delay_down_counts_for_one_that_is_on(self):
+        text = "in a\nrelay r at 1 up 3 down 40\nrelay s at 1 up 50 down 2\nclose a 0 1\n"
+        got = ask(load(text), press(0, 1), run(1000), told(), press(0, 0), run(1000), told())
+        self.assertEqual(got[2], [0, 1000, 2, 0, relay(0), 0, relay(1), 0])
+        self.assertEqual(got[5], [0, 1000, 2, 0, relay(1), 0, relay(0), 0])
+        for ticks, turned in ((2, 0), (3, 1), (40, 1), (41, 2)):
+            self.assertEqual(last(load(text), press(0, 1), run(1000), press(0, 0), run(ticks))[2], turned)
+
+    def test_nothing_ever_turns(self):
+        self.assertEqual(ask(load("relay r at 1\nrelay s at 0 up 5000\n"), run(2000), run(1999, 3), told())[1:],
+                         [[0, 2000, 0, 0], [0, 1999, 0, 0], [0, 0, 0, 3999, 0, 3999]])
 
 
 if __name__ == "__main__":
